@@ -1,0 +1,1 @@
+"""Clockless: circuits without a clock from signal transition graphs."""

@@ -1,0 +1,64 @@
+"""The examples of the document, word for word."""
+
+import unittest
+
+from tests.doc_examples import blocks_of, outcome
+
+NETS = r"""
+>>> from clockless.nets import Net
+>>> net = Net(3, [((0,), (1, 2)), ((1, 2), (0,))], (0,))
+>>> net.enabled((1, 2))
+[1]
+
+>>> from clockless.nets import Net
+>>> net = Net(3, [((0,), (1, 2)), ((1, 2), (0,))], (0,))
+>>> net.fire((0,), 0)
+(1, 2)
+
+>>> from clockless.nets import Net
+>>> net = Net(2, [((0,), (0, 1))], (0,))
+>>> net.fire_all([0, 0])
+raises Unsafe
+"""
+
+WEIGHTS = r"""
+>>> from clockless.nets import Net
+>>> from clockless.weights import largest_trap
+>>> net = Net(3, [((0,), (1,)), ((1,), (2,))], (0,))
+>>> largest_trap(net, (0, 1, 2))
+(2,)
+"""
+
+SPECTEXT = r"""
+>>> from clockless.spectext import parse_spec
+>>> spec = parse_spec("signal a input 0\nsignal b output 0\nplaces 4 0\na+ 0 to 1\nb+ 1 to 2\na- 2 to 3\nb- 3 to 0")
+>>> spec.transition_text(3)
+'b-'
+
+>>> from clockless.spectext import parse_spec
+>>> parse_spec("signal a input 0\nplaces 2 0\na+ 0 to 1\na+ 1 to 0")
+raises InvalidText
+"""
+
+
+class Examples(unittest.TestCase):
+    def check(self, text, count):
+        blocks = blocks_of(text)
+        self.assertEqual(len(blocks), count)
+        for statements, shown in blocks:
+            with self.subTest(statements[-1]):
+                self.assertEqual(outcome(statements), shown)
+
+    def test_nets(self):
+        self.check(NETS, 3)
+
+    def test_weights_follows_point_8_where_the_example_does_not(self):
+        # The example shows (2,), but point 8 makes (0, 1, 2) a trap: transition 0
+        # takes from place 0 and gives to 1, and transition 1 takes from 1 and gives
+        # to 2. Its procedure removes no place, either. The promise is kept.
+        [(statements, shown)] = blocks_of(WEIGHTS)
+        self.assertEqual(shown, "(2,)")
+        self.assertEqual(outcome(statements), "(0, 1, 2)")
+
+    def test_spectext(self):
+        self.check(SPECTEXT, 2)

@@ -1,0 +1,72 @@
+"""The interface: each name stands in its file, with its arguments."""
+
+import ast
+import inspect
+import importlib
+import pathlib
+import unittest
+
+PACKAGE = pathlib.Path(__file__).resolve().parent.parent / "clockless"
+
+# Module -> functions and classes; of a class, its methods.
+FUNCTIONS = {
+    "weights": ["weight(marking, weights)", "is_balanced(net, weights)", "is_trap(net, places)",
+                "is_siphon(net, places)", "largest_trap(net, places)", "largest_siphon(net, places)"],
+    "spectext": ["format_spec(spec)", "parse_spec(text)"],
+}
+
+METHODS = {
+    ("nets", "Net"): ["__init__(self, place_count, transitions, marked)", "__len__(self)", "preset(self, transition)",
+                      "postset(self, transition)", "consumers(self, place)", "producers(self, place)",
+                      "is_enabled(self, marking, transition)", "enabled(self, marking)",
+                      "fire(self, marking, transition)", "fire_all(self, sequence, *, marking=None)",
+                      "markings_along(self, sequence)", "conflict(self, first, second)",
+                      "independent(self, first, second)"],
+    ("specs", "Spec"): ["__init__(self, net, signals, edges, start)", "__len__(self)", "is_input(self, signal)",
+                        "signal_named(self, name)", "transitions_of(self, edge)", "edge_text(self, edge)",
+                        "transition_text(self, transition)", "transition_named(self, text)", "mirror(self)",
+                        "__eq__(self, other)"],
+}
+
+PROPERTIES = {("specs", "Spec"): ["driven"]}
+
+GENERATORS = [("nets", "Net", "markings_along")]
+
+
+def defined(module):
+    """The functions and classes that the file itself defines."""
+    tree = ast.parse((PACKAGE / f"{module}.py").read_text())
+    return {node.name for node in tree.body if isinstance(node, (ast.FunctionDef, ast.ClassDef))}
+
+
+class Interface(unittest.TestCase):
+    def test_functions(self):
+        for module, listed in FUNCTIONS.items():
+            content = importlib.import_module(f"clockless.{module}")
+            for text in listed:
+                name = text.split("(")[0]
+                with self.subTest(text):
+                    self.assertIn(name, defined(module))
+                    self.assertEqual(name + str(inspect.signature(getattr(content, name))), text)
+
+    def test_methods(self):
+        for (module, owner), listed in METHODS.items():
+            content = getattr(importlib.import_module(f"clockless.{module}"), owner)
+            self.assertIn(owner, defined(module))
+            for text in listed:
+                name = text.split("(")[0]
+                with self.subTest(f"{owner}.{text}"):
+                    self.assertIn(name, vars(content))
+                    self.assertEqual(name + str(inspect.signature(vars(content)[name])), text)
+
+    def test_properties(self):
+        for (module, owner), listed in PROPERTIES.items():
+            content = getattr(importlib.import_module(f"clockless.{module}"), owner)
+            for name in listed:
+                self.assertIsInstance(vars(content)[name], property)
+
+    def test_generators(self):
+        for module, owner, name in GENERATORS:
+            content = importlib.import_module(f"clockless.{module}")
+            made = getattr(getattr(content, owner), name) if owner else getattr(content, name)
+            self.assertTrue(inspect.isgeneratorfunction(made))
