@@ -35,6 +35,7 @@ class SpecDraft:
     def __init__(self):
         self.signals = []
         self.start = ""
+        # None as long as the line for the places was not read.
         self.place_count = None
         self.marked = ()
         self.transitions = []
@@ -91,11 +92,10 @@ class SpecDraft:
 
     def _next_edge(self, word):
         """The edge of the next transition if this word is its text, otherwise None."""
-        plain = word.partition("/")[0]
         for signal in range(len(self.signals)):
             for value in (0, 1):
                 edge = (signal, value)
-                text = edge_text_of(self.signals, edge)
-                if text == plain and word == occurrence_text(text, self.edges.count(edge) + 1):
+                count = self.edges.count(edge) + 1
+                if word == occurrence_text(edge_text_of(self.signals, edge), count):
                     return edge
         return None

@@ -52,3 +52,73 @@ def random_spec(seed):
     signals = [(name, chance.choice(["input", "output", "inner"])) for name in ["a", "b", "c"][:count]]
     edges = [(chance.randrange(count), chance.randrange(2)) for _ in range(len(net))]
     return Spec(net, signals, edges, "".join(chance.choice("01") for _ in signals))
+
+
+def chains_spec(lengths):
+    """Independent chains of places, each with a signal that changes at each step."""
+    transitions, edges, marked, first = [], [], [], 0
+    for signal, length in enumerate(lengths):
+        marked.append(first)
+        for step in range(length - 1):
+            transitions.append(((first + step,), (first + step + 1,)))
+            edges.append((signal, 1 - step % 2))
+        first += length
+    signals = [(f"s{k}", "output") for k in range(len(lengths))]
+    return Spec(Net(first, transitions, tuple(marked)), signals, edges, "0" * len(lengths))
+
+
+def random_machines(seed):
+    """A specification with a state graph: one or two machines of one token, side by side.
+
+    Each place has a code, and transitions lead between places whose codes differ in one signal.
+    """
+    chance = random.Random(seed)
+    transitions, edges, marked, signals, start = [], [], [], [], ""
+    for _ in range(chance.randint(1, 2)):
+        width, first = chance.randint(1, 3), 8 * len(marked)
+        codes = [chance.randrange(2 ** width) for _ in range(chance.randint(2, 6))]
+        for _ in range(chance.randint(4, 24)):
+            one, other = chance.randrange(len(codes)), chance.randrange(len(codes))
+            change = codes[one] ^ codes[other]
+            if change in (1, 2, 4):
+                signal = change.bit_length() - 1
+                transitions.append(((first + one,), (first + other,)))
+                edges.append((len(signals) + signal, codes[other] >> signal & 1))
+        marked.append(first)
+        start += "".join(str(codes[0] >> signal & 1) for signal in range(width))
+        signals += [(f"s{len(marked)}{k}", chance.choice(["input", "output", "inner"])) for k in range(width)]
+    return Spec(Net(8 * len(marked), transitions, tuple(marked)), signals, edges, start)
+
+
+class Fault(Exception):
+    """What the reference exploration found: the name of an error and its fields."""
+
+
+def reference_exploration(spec, limit):
+    """The states, paths and arcs of a state graph, straight from the words of points 16 to 19."""
+    states = [(frozenset(spec.net.marked), spec.start)]
+    paths = [[]]
+    arcs = []
+    while len(arcs) < len(states):
+        marking, code = states[len(arcs)]
+        path = paths[len(arcs)]
+        arcs.append([])
+        for transition, (preset, postset) in enumerate(spec.net.transitions):
+            if not set(preset) <= marking:
+                continue
+            signal, value = spec.edges[transition]
+            doubled = (marking - set(preset)) & set(postset)
+            if doubled:
+                raise Fault("Unsafe", {"sequence": path + [transition], "place": min(doubled)})
+            if int(code[signal]) == value:
+                raise Fault("Inconsistent", {"sequence": path + [transition]})
+            values = list(code)
+            values[signal] = str(value)
+            after = ((marking - set(preset)) | set(postset), "".join(values))
+            if after not in states:
+                if len(states) == limit:
+                    raise Fault("TooLarge", {"limit": limit})
+                states.append(after)
+                paths.append(path + [transition])
+            arcs[-1].append((transition, states.index(after)))
+    return [(tuple(sorted(marking)), code) for marking, code in states], paths, arcs

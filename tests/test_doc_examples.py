@@ -40,6 +40,44 @@ SPECTEXT = r"""
 raises InvalidText
 """
 
+GRAPHS = r"""
+>>> from clockless.spectext import parse_spec
+>>> from clockless.graphs import explore
+>>> graph = explore(parse_spec("signal a input 0\nsignal b output 0\nplaces 4 0\na+ 0 to 1\nb+ 1 to 2\na- 2 to 3\nb- 3 to 0"))
+>>> list(graph)
+[((0,), '00'), ((1,), '10'), ((2,), '11'), ((3,), '01')]
+
+>>> from clockless.spectext import parse_spec
+>>> from clockless.graphs import explore
+>>> explore(parse_spec("signal a input 1\nplaces 2 0\na+ 0 to 1"))
+raises Inconsistent
+"""
+
+CHECKS = r"""
+>>> from clockless.spectext import parse_spec
+>>> from clockless.graphs import explore
+>>> from clockless.checks import conflicts
+>>> text = "signal a input 0\nsignal b output 0\nplaces 6 0\na+ 0 to 1\na- 1 to 2\nb+ 2 to 3\na+/2 3 to 4\na-/2 4 to 5\nb- 5 to 0"
+>>> conflicts(explore(parse_spec(text)))
+[(0, 2), (3, 5)]
+
+>>> from clockless.spectext import parse_spec
+>>> from clockless.graphs import explore
+>>> from clockless.checks import check
+>>> check(explore(parse_spec("signal a output 0\nsignal b output 0\nplaces 1 0\na+ 0 to\nb+ 0 to")))
+raises NotPersistent
+"""
+
+COVERS = r"""
+>>> from clockless.covers import compact_cover
+>>> compact_cover(["110", "111", "011"], ["000", "100", "001"])
+['-1-']
+
+>>> from clockless.covers import complement
+>>> complement(["1-", "-1"], 2)
+['00']
+"""
+
 
 class Examples(unittest.TestCase):
     def check(self, text, count):
@@ -62,3 +100,12 @@ class Examples(unittest.TestCase):
 
     def test_spectext(self):
         self.check(SPECTEXT, 2)
+
+    def test_graphs(self):
+        self.check(GRAPHS, 2)
+
+    def test_checks(self):
+        self.check(CHECKS, 2)
+
+    def test_covers(self):
+        self.check(COVERS, 2)

@@ -13,6 +13,15 @@ FUNCTIONS = {
     "weights": ["weight(marking, weights)", "is_balanced(net, weights)", "is_trap(net, places)",
                 "is_siphon(net, places)", "largest_trap(net, places)", "largest_siphon(net, places)"],
     "spectext": ["format_spec(spec)", "parse_spec(text)"],
+    "graphs": ["explore(spec, *, limit=1000)"],
+    "traces": ["trace_of(spec, sequence)", "follow(graph, trace)", "view(trace, *, signals)"],
+    "checks": ["nondeterminism(graph)", "disabling(graph)", "driven_excited(graph, state)", "conflicts(graph)",
+               "is_implementable(graph)", "check(graph, *, coded=True)"],
+    "cubes": ["contains(cube, code)", "is_inside(cube, other)", "intersection(cube, other)", "hull(codes)",
+              "literal_count(cube)", "codes_in(cube)", "with_character(cube, index, character)"],
+    "covers": ["cover_contains(cover, code)", "implements(cover, on, off)", "expand(cube, off)",
+               "is_prime(cube, off)", "compact_cover(on, off)", "restriction(cover, cube)",
+               "complement(cover, width)", "is_full(cover, width)"],
 }
 
 METHODS = {
@@ -26,11 +35,15 @@ METHODS = {
                         "signal_named(self, name)", "transitions_of(self, edge)", "edge_text(self, edge)",
                         "transition_text(self, transition)", "transition_named(self, text)", "mirror(self)",
                         "__eq__(self, other)"],
+    ("graphs", "StateGraph"): ["__len__(self)", "__iter__(self)", "marking(self, state)", "code(self, state)",
+                               "state_at(self, marking, code)", "path(self, state)", "arcs(self, state)",
+                               "arcs_into(self, state)", "edges(self, state)", "after(self, state, edge)",
+                               "is_excited(self, state, signal)"],
 }
 
 PROPERTIES = {("specs", "Spec"): ["driven"]}
 
-GENERATORS = [("nets", "Net", "markings_along")]
+GENERATORS = [("nets", "Net", "markings_along"), ("cubes", None, "codes_in")]
 
 
 def defined(module):

@@ -1,5 +1,6 @@
 """Points 9 to 13: signals, edges, codes, texts and the mirror."""
 
+import string
 import unittest
 
 from clockless.errors import InvalidSpec, UnknownName
@@ -118,6 +119,10 @@ class Counts(unittest.TestCase):
         for start in ("", "0", "000", "02", "a0", "0 ", " 0", "-0", "0-", "0\n"):
             with self.subTest(start), self.assertRaises(InvalidSpec):
                 ring_spec(start=start)
+        for character in string.printable:
+            if character not in "01":
+                with self.subTest(character), self.assertRaises(InvalidSpec):
+                    ring_spec(start="0" + character)
         with self.assertRaises(InvalidSpec):
             spec_with_signals([], "0")
 
