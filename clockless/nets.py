@@ -1,6 +1,7 @@
 """Petri nets: places, transitions, markings and firing."""
 
 from clockless.errors import InvalidNet, NotEnabled, Unsafe
+from clockless.orders import is_ascending
 
 MOST_PLACES = 64
 MOST_TRANSITIONS = 64
@@ -8,12 +9,7 @@ MOST_TRANSITIONS = 64
 
 def are_places(places, place_count):
     """Whether the numbers are ascending and each one is a place."""
-    last = -1
-    for place in places:
-        if place <= last or place >= place_count:
-            return False
-        last = place
-    return True
+    return is_ascending(places) and all([0 <= place < place_count for place in places])
 
 
 def _users(place_count, place_sets):

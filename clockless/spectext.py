@@ -2,7 +2,7 @@
 
 from clockless.errors import InvalidText
 from clockless.nets import MOST_PLACES, MOST_TRANSITIONS, Net
-from clockless.signals import are_signals, edge_text_of, occurrence_text
+from clockless.signals import edge_text_of, occurrence_text
 from clockless.specs import Spec
 from clockless.words import number_words, read_ascending, read_number, read_signal, signal_line
 
@@ -55,14 +55,11 @@ class SpecDraft:
         return Spec(net, self.signals, self.edges, self.start)
 
     def _take_signal(self, words):
-        read = read_signal(words)
+        read = read_signal(words, self.signals)
         if read is None:
             return False
-        name, kind, value = read
-        signals = self.signals + [(name, kind)]
-        if not are_signals(signals):
-            return False
-        self.signals = signals
+        signal, value = read
+        self.signals.append(signal)
         self.start += value
         return True
 

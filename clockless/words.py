@@ -1,6 +1,7 @@
 """Reading and writing the words of a line."""
 
-from clockless.signals import DIGITS
+from clockless.orders import is_ascending
+from clockless.signals import DIGITS, are_signals
 
 
 def read_number(word, most):
@@ -16,15 +17,16 @@ def read_number(word, most):
     return number if number <= most else None
 
 
+def read_numbers(words, below):
+    """The tuple of numbers that the words write, each below the given one, or None."""
+    numbers = tuple([read_number(word, below - 1) for word in words])
+    return None if None in numbers else numbers
+
+
 def read_ascending(words, below):
     """The ascending tuple of numbers that the words write, or None."""
-    numbers = []
-    for word in words:
-        number = read_number(word, below - 1)
-        if number is None or (numbers and number <= numbers[-1]):
-            return None
-        numbers.append(number)
-    return tuple(numbers)
+    numbers = read_numbers(words, below)
+    return numbers if numbers is not None and is_ascending(numbers) else None
 
 
 def number_words(numbers):
@@ -38,8 +40,9 @@ def signal_line(signal, value):
     return f"signal {name} {kind} {value}"
 
 
-def read_signal(words):
-    """The name, kind and start value that the words of a line give, or None."""
+def read_signal(words, signals):
+    """The signal and the start value that the words of a line add to the signals, or None."""
     if len(words) != 4 or words[0] != "signal" or words[3] not in ("0", "1"):
         return None
-    return (words[1], words[2], words[3])
+    signal = (words[1], words[2])
+    return (signal, words[3]) if are_signals([*signals, signal]) else None

@@ -122,3 +122,69 @@ def reference_exploration(spec, limit):
                 paths.append(path + [transition])
             arcs[-1].append((transition, states.index(after)))
     return [(tuple(sorted(marking)), code) for marking, code in states], paths, arcs
+
+
+def machine(codes, arcs, *, kinds):
+    """One token that moves along the arcs between places, each of which has a code.
+
+    The numbers of the states are those of the places if the arcs discover them in their order.
+    """
+    edges = []
+    for one, other in arcs:
+        [signal] = [k for k in range(len(kinds)) if codes[one][k] != codes[other][k]]
+        edges.append((signal, int(codes[other][signal])))
+    long_kinds = {"i": "input", "o": "output", "n": "inner"}
+    signals = [(name, long_kinds[kind]) for name, kind in zip("abcdefgh", kinds)]
+    return Spec(Net(len(codes), [((one,), (other,)) for one, other in arcs], (0,)), signals, edges, codes[0])
+
+
+def ring(text, *, kinds):
+    """A specification that repeats the edges of a text in their order; each signal starts with 0."""
+    words = text.split(" ")
+    names = sorted({word[:-1] for word in words})
+    codes = [[0] * len(names)]
+    for word in words:
+        code = list(codes[-1])
+        code[names.index(word[:-1])] = int(word[-1] == "+")
+        codes.append(code)
+    assert codes.pop() == codes[0]
+    texts = ["".join(str(value) for value in code) for code in codes]
+    spec = machine(texts, [(k, (k + 1) % len(words)) for k in range(len(words))], kinds=kinds)
+    return Spec(spec.net, [(name, kind) for name, (_, kind) in zip(names, spec.signals)], spec.edges, spec.start)
+
+
+def random_steps(chance, count, length):
+    """Steps of a loop: in each one some signals change side by side; at the end all are back."""
+    code, steps = [0] * count, []
+    for _ in range(length):
+        chosen = chance.sample(range(count), chance.choice([1, 1, 2, 3][:count + 1]))
+        steps.append([(signal, 1 - code[signal]) for signal in chosen])
+        for signal in chosen:
+            code[signal] = 1 - code[signal]
+    back = [signal for signal in range(count) if code[signal]]
+    while back:
+        size = chance.randint(1, min(3, len(back)))
+        steps.append([(signal, 0) for signal in back[:size]])
+        back = back[size:]
+    return steps
+
+
+def loop_spec(steps, kinds):
+    """A specification that repeats steps: each edge of a step waits for all edges of the step before."""
+    transitions = [(index, edge) for index, step in enumerate(steps) for edge in step]
+    places = [(one, other) for one, (index, _) in enumerate(transitions) for other, (then, _) in enumerate(transitions)
+              if then == (index + 1) % len(steps)]
+    arcs = [(tuple(k for k, (_, taker) in enumerate(places) if taker == transition),
+             tuple(k for k, (giver, _) in enumerate(places) if giver == transition))
+            for transition in range(len(transitions))]
+    marked = tuple(k for k, (_, taker) in enumerate(places) if transitions[taker][0] == 0)
+    signals = [(name, kind) for name, kind in zip("abcdefgh", kinds)]
+    return Spec(Net(len(places), arcs, marked), signals, [edge for _, edge in transitions], "0" * len(kinds))
+
+
+def random_loop(seed):
+    """A loop whose signals change in steps, some of them side by side; many of these have conflicts."""
+    chance = random.Random(seed)
+    count = chance.randint(2, 4)
+    kinds = [chance.choice(["input", "output", "output", "inner"]) for _ in range(count)]
+    return loop_spec(random_steps(chance, count, chance.randint(2, 5)), kinds)

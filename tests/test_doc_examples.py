@@ -78,6 +78,28 @@ COVERS = r"""
 ['00']
 """
 
+FUNCTIONS = r"""
+>>> from clockless.spectext import parse_spec
+>>> from clockless.graphs import explore
+>>> from clockless.monotone import monotonous_cover
+>>> graph = explore(parse_spec("signal a input 0\nsignal b output 0\nplaces 4 0\na+ 0 to 1\nb+ 1 to 2\na- 2 to 3\nb- 3 to 0"))
+>>> monotonous_cover(graph, (1, 1))
+['1-']
+"""
+
+RESOLVING = r"""
+>>> from clockless.spectext import parse_spec, format_spec
+>>> from clockless.inserts import insert
+>>> spec = parse_spec("signal a input 0\nsignal b output 0\nplaces 4 0\na+ 0 to 1\nb+ 1 to 2\na- 2 to 3\nb- 3 to 0")
+>>> insert(spec, "s0", rise=1, fall=3, value="0").net.preset(4)
+(1,)
+
+>>> from clockless.spectext import parse_spec
+>>> from clockless.inserts import insertion_points
+>>> insertion_points(parse_spec("signal a input 0\nsignal b output 0\nplaces 4 0\na+ 0 to 1\nb+ 1 to 2\na- 2 to 3\nb- 3 to 0"))
+[1, 3]
+"""
+
 
 class Examples(unittest.TestCase):
     def check(self, text, count):
@@ -109,3 +131,9 @@ class Examples(unittest.TestCase):
 
     def test_covers(self):
         self.check(COVERS, 2)
+
+    def test_functions(self):
+        self.check(FUNCTIONS, 1)
+
+    def test_resolving(self):
+        self.check(RESOLVING, 2)

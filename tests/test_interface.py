@@ -22,6 +22,14 @@ FUNCTIONS = {
     "covers": ["cover_contains(cover, code)", "implements(cover, on, off)", "expand(cube, off)",
                "is_prime(cube, off)", "compact_cover(on, off)", "restriction(cover, cube)",
                "complement(cover, width)", "is_full(cover, width)"],
+    "regions": ["phase(graph, state, signal)", "regions(graph, edge)"],
+    "monotone": ["is_monotonous(graph, edge, region, cube)", "least_monotonous(graph, edge, region)",
+                 "monotonous_cover(graph, edge)"],
+    "functions": ["next_function(graph, signal)", "set_function(graph, signal)", "reset_function(graph, signal)"],
+    "inserts": ["insertion_points(spec)", "new_name(spec)", "insert(spec, name, *, rise, fall, value)",
+                "candidates(spec)"],
+    "resolving": ["weigh(spec, candidate, *, limit=1000)", "best_candidate(spec, *, limit=1000)",
+                  "resolve(spec, *, rounds=2, limit=1000)"],
 }
 
 METHODS = {
@@ -39,11 +47,14 @@ METHODS = {
                                "state_at(self, marking, code)", "path(self, state)", "arcs(self, state)",
                                "arcs_into(self, state)", "edges(self, state)", "after(self, state, edge)",
                                "is_excited(self, state, signal)"],
+    ("netlists", "Netlist"): ["__init__(self, signals, start, gates)", "__len__(self)", "__eq__(self, other)",
+                              "gate_value(self, values, wire)", "is_excited(self, values, wire)",
+                              "excited(self, values)", "flipped(self, values, wire)"],
 }
 
-PROPERTIES = {("specs", "Spec"): ["driven"]}
+PROPERTIES = {("specs", "Spec"): ["driven"], ("netlists", "Netlist"): ["signal_count", "initial"]}
 
-GENERATORS = [("nets", "Net", "markings_along"), ("cubes", None, "codes_in")]
+GENERATORS = [("nets", "Net", "markings_along"), ("cubes", None, "codes_in"), ("inserts", None, "candidates")]
 
 
 def defined(module):
