@@ -29,7 +29,8 @@ def _region_of(graph, excited, state):
     seen = {state: True}
     waiting = [state]
     while waiting:
-        for other in _neighbours(graph, waiting.pop()):
+        member = waiting.pop()
+        for other in _neighbours(graph, member):
             if other in excited and other not in seen:
                 seen[other] = True
                 waiting.append(other)

@@ -1,10 +1,11 @@
 """The written form of specifications."""
 
+from clockless.drafts import SignalsDraft
 from clockless.errors import InvalidText
 from clockless.nets import MOST_PLACES, MOST_TRANSITIONS, Net
 from clockless.signals import edge_text_of, occurrence_text
 from clockless.specs import Spec
-from clockless.words import number_words, read_ascending, read_number, read_signal, signal_line
+from clockless.words import number_words, read_ascending, read_number, signal_line
 
 
 def format_spec(spec):
@@ -29,12 +30,11 @@ def parse_spec(text):
     return draft.finished()
 
 
-class SpecDraft:
+class SpecDraft(SignalsDraft):
     """What the lines that were read so far say of a specification."""
 
     def __init__(self):
-        self.signals = []
-        self.start = ""
+        super().__init__()
         # None as long as the line for the places was not read.
         self.place_count = None
         self.marked = ()
@@ -47,21 +47,12 @@ class SpecDraft:
             return self._take_transition(words)
         if words[0] == "places":
             return self._take_places(words)
-        return self._take_signal(words)
+        return self.take_signal(words)
 
     def finished(self):
         """The specification that the lines describe."""
         net = Net(self.place_count, self.transitions, self.marked)
         return Spec(net, self.signals, self.edges, self.start)
-
-    def _take_signal(self, words):
-        read = read_signal(words, self.signals)
-        if read is None:
-            return False
-        signal, value = read
-        self.signals.append(signal)
-        self.start += value
-        return True
 
     def _take_places(self, words):
         place_count = read_number(words[1], MOST_PLACES) if len(words) > 1 else None

@@ -100,6 +100,55 @@ RESOLVING = r"""
 [1, 3]
 """
 
+BUILDING = r"""
+>>> from clockless.spectext import parse_spec
+>>> from clockless.graphs import explore
+>>> from clockless.building import build
+>>> from clockless.nettext import format_netlist
+>>> graph = explore(parse_spec("signal a input 0\nsignal b output 0\nplaces 4 0\na+ 0 to 1\nb+ 1 to 2\na- 2 to 3\nb- 3 to 0"))
+>>> format_netlist(build(graph))
+'signal a input 0\nsignal b output 0\ngate 1 c 3 5\ngate 2 and 1-\ngate 3 or 2\ngate 4 and 0-\ngate 5 or 4'
+
+>>> from clockless.spectext import parse_spec
+>>> from clockless.graphs import explore
+>>> from clockless.building import build
+>>> graph = explore(parse_spec("signal a input 0\nsignal b output 0\nplaces 4 0\na+ 0 to 1\nb+ 1 to 2\na- 2 to 3\nb- 3 to 0"))
+>>> build(graph, style="atomic").gates
+(None, ('atomic', ('1-',)))
+"""
+
+EXAMINING = r"""
+>>> from clockless.spectext import parse_spec
+>>> from clockless.netlists import Netlist
+>>> from clockless.boards import Board
+>>> spec = parse_spec("signal a input 0\nsignal b output 0\nplaces 4 0\na+ 0 to 1\nb+ 1 to 2\na- 2 to 3\nb- 3 to 0")
+>>> board = Board(spec, Netlist([("a", "input"), ("b", "output")], "00", [None, ("atomic", ("1-",))]))
+>>> board.moves(board.initial)
+[('input', 0)]
+
+>>> from clockless.spectext import parse_spec
+>>> from clockless.netlists import Netlist
+>>> from clockless.boards import Board
+>>> from clockless.examining import examine
+>>> spec = parse_spec("signal a input 0\nsignal b output 0\nplaces 4 0\na+ 0 to 1\nb+ 1 to 2\na- 2 to 3\nb- 3 to 0")
+>>> examine(Board(spec, Netlist([("a", "input"), ("b", "output")], "00", [None, ("atomic", ("0-",))])))
+raises Flawed
+"""
+
+FLOW = r"""
+>>> from clockless.spectext import parse_spec
+>>> from clockless.flow import synthesise
+>>> from clockless.nettext import format_netlist
+>>> spec = parse_spec("signal a input 0\nsignal b output 0\nplaces 4 0\na+ 0 to 1\nb+ 1 to 2\na- 2 to 3\nb- 3 to 0")
+>>> format_netlist(synthesise(spec, style="latch"))
+'signal a input 0\nsignal b output 0\ngate 1 latch 1- to 0-'
+
+>>> from clockless.spectext import parse_spec
+>>> from clockless.flow import reason
+>>> reason(parse_spec("signal a output 0\nsignal b output 0\nplaces 1 0\na+ 0 to\nb+ 0 to"))
+'NotPersistent'
+"""
+
 
 class Examples(unittest.TestCase):
     def check(self, text, count):
@@ -137,3 +186,12 @@ class Examples(unittest.TestCase):
 
     def test_resolving(self):
         self.check(RESOLVING, 2)
+
+    def test_building(self):
+        self.check(BUILDING, 2)
+
+    def test_examining(self):
+        self.check(EXAMINING, 2)
+
+    def test_flow(self):
+        self.check(FLOW, 2)

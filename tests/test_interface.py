@@ -30,6 +30,11 @@ FUNCTIONS = {
                 "candidates(spec)"],
     "resolving": ["weigh(spec, candidate, *, limit=1000)", "best_candidate(spec, *, limit=1000)",
                   "resolve(spec, *, rounds=2, limit=1000)"],
+    "nettext": ["format_netlist(netlist)", "parse_netlist(text)"],
+    "building": ["build(graph, *, style='split')"],
+    "examining": ["examine(board, *, limit=10000)", "is_certificate(board, states)"],
+    "flow": ["design(spec, *, style='split', rounds=2, limit=1000)",
+             "synthesise(spec, *, style='split', rounds=2, limit=1000)", "reason(spec, *, rounds=2, limit=1000)"],
 }
 
 METHODS = {
@@ -50,9 +55,13 @@ METHODS = {
     ("netlists", "Netlist"): ["__init__(self, signals, start, gates)", "__len__(self)", "__eq__(self, other)",
                               "gate_value(self, values, wire)", "is_excited(self, values, wire)",
                               "excited(self, values)", "flipped(self, values, wire)"],
+    ("boards", "Board"): ["__init__(self, spec, netlist)", "moves(self, state)", "after(self, state, move)",
+                          "flaw_of_move(self, state, move)", "flaw_of_state(self, state)", "run(self, moves)",
+                          "trace(self, moves)"],
 }
 
-PROPERTIES = {("specs", "Spec"): ["driven"], ("netlists", "Netlist"): ["signal_count", "initial"]}
+PROPERTIES = {("specs", "Spec"): ["driven"], ("netlists", "Netlist"): ["signal_count", "initial"],
+              ("boards", "Board"): ["initial"], ("flow", "Design"): ["inserted"]}
 
 GENERATORS = [("nets", "Net", "markings_along"), ("cubes", None, "codes_in"), ("inserts", None, "candidates")]
 

@@ -138,6 +138,12 @@ class Least(unittest.TestCase):
         self.assertEqual(least_monotonous(graph, (1, 0), [3]), "010")
         self.assertEqual(least_monotonous(graph, (1, 0), [8]), "011")
 
+    def test_fewer_literals_come_before_smaller_characters(self):
+        graph = graph_of(["1000", "1100", "0100", "0110", "0010", "0011", "0001"], [(k, k + 1) for k in range(6)], "ioii")
+        for cube, good in (("--00", True), ("1---", True), ("----", False), ("---0", False), ("--0-", False)):
+            self.assertEqual(is_monotonous(graph, (1, 1), [0], cube), good)
+        self.assertEqual(least_monotonous(graph, (1, 1), [0]), "1---")
+
     def test_of_several_the_least(self):
         graph = graph_of(LONG[0], LONG[1], "ioi")
         self.assertEqual([cube for cube in all_cubes(3) if is_monotonous(graph, (1, 1), [1], cube)],

@@ -6,6 +6,7 @@ import unittest
 
 from clockless.errors import ClocklessError, InvalidNetlist
 from clockless.netlists import Netlist
+from tests.board_reference import value_of
 
 ONE_IN_ONE_OUT = [("a", "input"), ("b", "output")]
 C_GATES = [None, ("c", 3, 5), ("and", "1-"), ("or", (2,)), ("and", "0-"), ("or", (4,))]
@@ -153,27 +154,6 @@ class Invalid(unittest.TestCase):
             self.assertTrue(rejected(ONE_IN_ONE_OUT, "00", [None, ("c", *wires), *rest]), wires)
 
 
-def expected_value(gate, values, wire, width):
-    """The value of a gate straight from the words of point 44."""
-    def has(cube):
-        return all(mark in ("-", value) for mark, value in zip(cube, values[:width]))
-
-    kind = gate[0]
-    if kind == "and":
-        return "1" if has(gate[1]) else "0"
-    if kind == "or":
-        return "1" if "1" in [values[k] for k in gate[1]] else "0"
-    if kind == "all":
-        return "0" if "0" in [values[k] for k in gate[1]] else "1"
-    if kind == "atomic":
-        return "1" if [cube for cube in gate[1] if has(cube)] else "0"
-    if kind == "c":
-        sets, resets = values[gate[1]] == "1", values[gate[2]] == "1"
-    else:
-        sets, resets = any(map(has, gate[1])), any(map(has, gate[2]))
-    return {(True, False): "1", (False, True): "0"}.get((sets, resets), values[wire])
-
-
 class Values(unittest.TestCase):
     def table(self, signals, gates, wire):
         """The value of the gate for all values of three wires, in their order."""
@@ -252,13 +232,13 @@ class Values(unittest.TestCase):
             width = netlist.signal_count
             initial = netlist.start
             for wire in range(width, len(netlist)):
-                initial += expected_value(netlist.gates[wire], initial + "x", wire, width)
+                initial += value_of(netlist.gates[wire], initial + "x", wire, width)
             self.assertEqual(netlist.initial, initial)
             self.assertEqual([wire for wire in netlist.excited(initial) if wire >= width], [])
             chance = random.Random(seed)
             for _ in range(20):
                 values = "".join(chance.choice("01") for _ in range(len(netlist)))
-                expected = [None if gate is None else expected_value(gate, values, wire, width)
+                expected = [None if gate is None else value_of(gate, values, wire, width)
                             for wire, gate in enumerate(netlist.gates)]
                 excited = [wire for wire, value in enumerate(expected) if value not in (None, values[wire])]
                 self.assertEqual(netlist.excited(values), excited)
@@ -283,6 +263,11 @@ class Equality(unittest.TestCase):
             self.assertFalse(netlist == other)
             self.assertTrue(netlist != other)
 
+    def test_other_kinds_of_values(self):
+        netlist = Netlist(ONE_IN_ONE_OUT, "00", C_GATES)
+        for other in (None, "00", C_GATES, (netlist.signals, netlist.start, netlist.gates)):
+            self.assertFalse(netlist == other)
+
     def test_wires_that_change_places(self):
         gates = [None, ("c", 5, 3), *C_GATES[2:]]
         self.assertFalse(Netlist(ONE_IN_ONE_OUT, "00", C_GATES) == Netlist(ONE_IN_ONE_OUT, "00", gates))
@@ -301,8 +286,13 @@ def random_cubes(chance, width):
 def random_netlist(seed):
     """A small netlist with gates of all kinds."""
     chance = random.Random(seed)
-    width, inner = chance.randint(1, 4), chance.randint(2, 6)
-    signals = [(name, chance.choice(["input", "output", "inner"])) for name in "abcd"[:width]]
+    signals = [(name, chance.choice(["input", "output", "inner"])) for name in "abcd"[:chance.randint(1, 4)]]
+    return random_netlist_for(chance, signals, "".join(chance.choice("01") for _ in signals))
+
+
+def random_netlist_for(chance, signals, start):
+    """A netlist with these signals and some inner wires."""
+    width, inner = len(signals), chance.randint(2, 6)
     gates = []
     for _, kind in signals:
         driving = [("atomic", random_cubes(chance, width)), ("c", *chance.sample(range(width, width + inner), 2)),
@@ -312,4 +302,4 @@ def random_netlist(seed):
         some = chance.sample(range(width, wire), chance.randint(0, wire - width))
         gates.append(chance.choice([("and", random_cube(chance, width)), ("or", tuple(sorted(some))),
                                     ("all", tuple(sorted(some)))]))
-    return Netlist(signals, "".join(chance.choice("01") for _ in signals), gates)
+    return Netlist(signals, start, gates)
