@@ -149,6 +149,34 @@ FLOW = r"""
 'NotPersistent'
 """
 
+PROCTEXT = r"""
+>>> from clockless.proctext import parse_program
+>>> from clockless.translating import translate
+>>> from clockless.spectext import format_spec
+>>> format_spec(translate(parse_program("signal a input 0\nsignal b output 0\nloop a+ ; b+ ; a- ; b-")))
+'signal a input 0\nsignal b output 0\nplaces 4 0\na+ 0 to 1\nb+ 1 to 2\na- 2 to 3\nb- 3 to 0'
+
+>>> from clockless.processes import steps
+>>> steps(("par", (("edge", 0, 1), ("edge", 1, 1))))
+[((0, 1), ('edge', 1, 1)), ((1, 1), ('edge', 0, 1))]
+
+>>> from clockless.proctext import parse_program
+>>> from clockless.translating import translate
+>>> translate(parse_program("signal a input 0\nsignal b output 0\nloop ( a+ | b+ ) ; a- ; b-")).net.marked
+(0, 1)
+"""
+
+TIMING = r"""
+>>> from clockless.spectext import parse_spec
+>>> from clockless.flow import synthesise
+>>> from clockless.boards import Board
+>>> from clockless.timing import simulate
+>>> spec = parse_spec("signal a input 0\nsignal b output 0\nplaces 4 0\na+ 0 to 1\nb+ 1 to 2\na- 2 to 3\nb- 3 to 0")
+>>> board = Board(spec, synthesise(spec, style="atomic"))
+>>> simulate(board, [5, 2], count=3)
+[(5, ('input', 0)), (7, ('gate', 1)), (8, ('input', 2))]
+"""
+
 
 class Examples(unittest.TestCase):
     def check(self, text, count):
@@ -195,3 +223,9 @@ class Examples(unittest.TestCase):
 
     def test_flow(self):
         self.check(FLOW, 2)
+
+    def test_proctext(self):
+        self.check(PROCTEXT, 3)
+
+    def test_timing(self):
+        self.check(TIMING, 1)

@@ -3,6 +3,12 @@
 import unittest
 
 from clockless import errors
+from clockless.boards import Board
+from clockless.composing import compose
+from clockless.netlists import Netlist
+from clockless.nets import Net
+from clockless.processes import Program
+from clockless.specs import Spec
 
 BASES = {
     "ClocklessError": "ValueError",
@@ -93,3 +99,43 @@ class Fields(unittest.TestCase):
     def test_the_other_errors_take_a_message(self):
         for name in set(BASES) - set(FIELDS):
             self.assertEqual(str(getattr(errors, name)("what is wrong")), "what is wrong")
+
+
+def caught(work):
+    """The error that the work raises."""
+    try:
+        work()
+    except errors.ClocklessError as error:
+        return error
+    raise AssertionError("no error")
+
+
+class Raised(unittest.TestCase):
+    """Errors without fields, as what is not valid raises them."""
+
+    def test_each_is_an_instance_of_its_own_class_only(self):
+        empty = Net(0, [], ())
+        spec = Spec(empty, [("a", "output")], [], "0")
+        raised = {
+            "InvalidNet": lambda: Net(-1, [], ()),
+            "InvalidSpec": lambda: Spec(empty, [("a", "wire")], [], "0"),
+            "InvalidNetlist": lambda: Netlist([("a", "output")], "0", [None]),
+            "InvalidBoard": lambda: Board(spec, Netlist([], "", [])),
+            "InvalidProgram": lambda: Program([("a", "output")], "0", []),
+            "NotComposable": lambda: compose(spec, spec),
+        }
+        for name, work in raised.items():
+            error = caught(work)
+            for other in BASES:
+                expected = other in (name, "ClocklessError")
+                self.assertEqual(isinstance(error, getattr(errors, other)), expected, (name, other))
+            self.assertIsInstance(error, ValueError)
+            self.assertNotIsInstance(error, LookupError)
+
+    def test_those_with_fields_are_instances_of_their_bases_only(self):
+        for name, fields in FIELDS.items():
+            error = getattr(errors, name)(*fields.values())
+            for other in BASES:
+                expected = other in (name, "ClocklessError", BASES[name])
+                self.assertEqual(isinstance(error, getattr(errors, other)), expected, (name, other))
+            self.assertIsInstance(error, ValueError)

@@ -35,6 +35,14 @@ FUNCTIONS = {
     "examining": ["examine(board, *, limit=10000)", "is_certificate(board, states)"],
     "flow": ["design(spec, *, style='split', rounds=2, limit=1000)",
              "synthesise(spec, *, style='split', rounds=2, limit=1000)", "reason(spec, *, rounds=2, limit=1000)"],
+    "processes": ["is_well_formed(process, signal_count)", "depth(process)", "steps(process)"],
+    "translating": ["front_width(process)", "back_width(process)", "is_connectable(process)", "is_closed(process)",
+                    "translate(program)"],
+    "proctext": ["format_process(process, signals)", "format_program(program)", "parse_program(text)"],
+    "composing": ["are_composable(first, second)", "compose(first, second)",
+                  "unreceived(first, second, *, limit=1000)"],
+    "timing": ["simulate(board, delays, *, count)", "glitches(board, delays, *, count)", "delays_for(board, moves)",
+               "wave(board, events, wire)"],
 }
 
 METHODS = {
@@ -58,10 +66,12 @@ METHODS = {
     ("boards", "Board"): ["__init__(self, spec, netlist)", "moves(self, state)", "after(self, state, move)",
                           "flaw_of_move(self, state, move)", "flaw_of_state(self, state)", "run(self, moves)",
                           "trace(self, moves)"],
+    ("processes", "Program"): ["__init__(self, signals, start, loops)", "steps(self, state)"],
 }
 
 PROPERTIES = {("specs", "Spec"): ["driven"], ("netlists", "Netlist"): ["signal_count", "initial"],
-              ("boards", "Board"): ["initial"], ("flow", "Design"): ["inserted"]}
+              ("boards", "Board"): ["initial"], ("flow", "Design"): ["inserted"],
+              ("processes", "Program"): ["initial"]}
 
 GENERATORS = [("nets", "Net", "markings_along"), ("cubes", None, "codes_in"), ("inserts", None, "candidates")]
 
