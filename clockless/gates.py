@@ -32,6 +32,13 @@ def gate_value_of(gate, values, code, present):
     return _kept(cover_contains(gate[1], code), cover_contains(gate[2], code), present)
 
 
+def wires_of(gate):
+    """The wires that the gate, or None, reads by their numbers."""
+    if gate is None or gate[0] in ("and", "atomic", "latch"):
+        return ()
+    return gate[1:] if gate[0] == "c" else gate[1]
+
+
 def _drives_inner_wire(gate, wire, signal_count):
     """Whether the gate may drive the inner wire."""
     kind = gate[0]

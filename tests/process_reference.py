@@ -111,3 +111,67 @@ def runs_by_steps(process, ask):
     if process is None:
         return {()}
     return {(one, *rest) for one, after in ask(process) for rest in runs_by_steps(after, ask)}
+
+
+def flat(*parts):
+    """A sequence whose parts that are sequences are taken apart."""
+    taken = [one for part in parts for one in (part[1] if part[0] == "seq" else (part,))]
+    return ("seq", tuple(taken)) if len(taken) > 1 else taken[0]
+
+
+def pulse(signal, *between):
+    """The signal rises, then something happens, then it falls."""
+    return flat(("edge", signal, 1), *between, ("edge", signal, 0))
+
+
+class CircuitProgram:
+    """Makes a program whose signals come back to their start values; many of these have circuits."""
+
+    def __init__(self, seed):
+        self.chance = random.Random(seed)
+        self.kinds = []
+        loops = [self.loop() for _ in range(self.chance.choice([1, 1, 1, 2]))]
+        signals = [("abcdefgh"[k], kind) for k, kind in enumerate(self.kinds)]
+        self.program = Program(signals, "0" * len(signals), loops)
+
+    def signal(self, kind):
+        self.kinds.append(kind)
+        return len(self.kinds) - 1
+
+    def loop(self):
+        form = self.chance.choice(["answer", "choice", "branches", "body"])
+        if form == "body":
+            return self.body(2)
+        ways = [self.answer() for _ in range(2 if form == "choice" and len(self.kinds) < 3 else 1)]
+        if form == "branches" and len(self.kinds) < 4:
+            one, two, go = self.signal("output"), self.signal("output"), self.signal("input")
+            return seq(("edge", go, 1), ("par", (("edge", one, 1), ("edge", two, 1))), ("edge", go, 0),
+                       ("par", (("edge", one, 0), ("edge", two, 0))))
+        return ("choice", tuple(ways)) if len(ways) > 1 else ways[0]
+
+    def answer(self):
+        """An input that is answered by an output, perhaps with more between them."""
+        go, done = self.signal("input"), self.signal("output")
+        between = [self.body(1)] if len(self.kinds) < 5 and self.chance.random() < 0.5 else []
+        return flat(("edge", go, 1), *between, ("edge", done, 1), ("edge", go, 0), ("edge", done, 0))
+
+    def body(self, levels):
+        """Something that the circuit begins."""
+        ask = self.signal(self.chance.choice(["output", "output", "inner"]))
+        form = self.chance.choice(["alone", "pair", "around", "beside"]) if levels else "pair"
+        if form == "alone" or len(self.kinds) > 6:
+            return pulse(ask)
+        if form == "around" and len(self.kinds) < 6:
+            return pulse(ask, self.body(levels - 1))
+        if form == "beside" and len(self.kinds) < 5:
+            return pulse(ask, ("par", (self.body(0), self.body(0))))
+        reply = self.signal("input")
+        return flat(("edge", ask, 1), ("edge", reply, 1), ("edge", ask, 0), ("edge", reply, 0))
+
+
+def circuit_program(seed):
+    """A program that the seed decides, with at most eight signals."""
+    try:
+        return CircuitProgram(seed).program
+    except (IndexError, ValueError):
+        return circuit_program(seed + 1000)

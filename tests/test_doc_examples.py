@@ -177,6 +177,49 @@ TIMING = r"""
 [(5, ('input', 0)), (7, ('gate', 1)), (8, ('input', 2))]
 """
 
+EXPLAINING = r"""
+>>> from clockless.netlists import Netlist
+>>> from clockless.tidying import tidied
+>>> netlist = Netlist([("a", "input"), ("b", "output")], "00", [None, ("c", 3, 5), ("and", "1-"), ("or", (2,)), ("and", "0-"), ("or", (4,))])
+>>> tidied(netlist).gates
+(None, ('c', 2, 3), ('and', '1-'), ('and', '0-'))
+
+>>> from clockless.errors import NotPersistent
+>>> from clockless.spectext import parse_spec
+>>> from clockless.explaining import explanation
+>>> explanation(parse_spec("signal a output 0\nsignal b output 0\nplaces 1 0\na+ 0 to\nb+ 0 to"), NotPersistent([], 0, 1))
+'not persistent: after start, b+ disables a+'
+"""
+
+CONFIGURATIONS = r"""
+>>> from clockless.spectext import parse_spec
+>>> from clockless.prefixes import unfold
+>>> prefix = unfold(parse_spec("signal a input 0\nsignal b output 0\nplaces 4 0\na+ 0 to 1\nb+ 1 to 2\na- 2 to 3\nb- 3 to 0"))
+>>> prefix.past(3)
+(0, 1, 2, 3)
+
+>>> from clockless.spectext import parse_spec
+>>> from clockless.prefixes import unfold
+>>> prefix = unfold(parse_spec("signal a input 0\nsignal b output 0\nplaces 4 0\na+ 0 to 1\nb+ 1 to 2\na- 2 to 3\nb- 3 to 0"))
+>>> prefix.is_cutoff(3)
+True
+"""
+
+FANIN = r"""
+>>> from clockless.netlists import Netlist
+>>> from clockless.fanin import reduced
+>>> netlist = Netlist([("a", "input"), ("b", "input"), ("c", "output")], "000", [None, None, ("c", 4, 6), ("and", "110"), ("or", (3,)), ("and", "00-"), ("or", (5,))])
+>>> reduced(netlist, width=2).gates
+(None, None, ('c', 6, 8), ('and', '11-'), ('and', '--0'), ('all', (3, 4)), ('or', (5,)), ('and', '00-'), ('or', (7,)))
+"""
+
+COMPILING = r"""
+>>> from clockless.compiling import compile_program
+>>> from clockless.nettext import format_netlist
+>>> format_netlist(compile_program("signal a input 0\nsignal b output 0\nloop a+ ; b+ ; a- ; b-").netlist)
+'signal a input 0\nsignal b output 0\ngate 1 c 2 3\ngate 2 and 1-\ngate 3 and 0-'
+"""
+
 
 class Examples(unittest.TestCase):
     def check(self, text, count):
@@ -229,3 +272,15 @@ class Examples(unittest.TestCase):
 
     def test_timing(self):
         self.check(TIMING, 1)
+
+    def test_explaining(self):
+        self.check(EXPLAINING, 2)
+
+    def test_configurations(self):
+        self.check(CONFIGURATIONS, 2)
+
+    def test_fanin(self):
+        self.check(FANIN, 1)
+
+    def test_compiling(self):
+        self.check(COMPILING, 1)

@@ -43,6 +43,15 @@ FUNCTIONS = {
                   "unreceived(first, second, *, limit=1000)"],
     "timing": ["simulate(board, delays, *, count)", "glitches(board, delays, *, count)", "delays_for(board, moves)",
                "wave(board, events, wire)"],
+    "tidying": ["source(netlist, wire)", "needed(netlist)", "tidied(netlist)"],
+    "explaining": ["sequence_text(spec, sequence)", "explanation(spec, refusal)"],
+    "prefixes": ["unfold(spec, *, limit=500)"],
+    "configurations": ["is_configuration(prefix, events)", "cut(prefix, events)", "state_of(prefix, events)",
+                       "relation(prefix, first, second)", "linearised(prefix, events)",
+                       "configurations(prefix, *, limit=5000)", "states_of(prefix, *, limit=5000)"],
+    "fanin": ["fan_in(gate)", "widest(netlist)", "reduced(netlist, *, width)",
+              "bounded(spec, netlist, *, width, limit=10000)"],
+    "compiling": ["compile_program(text, *, style='split', rounds=2, limit=1000)", "follow_program(program, trace)"],
 }
 
 METHODS = {
@@ -67,11 +76,13 @@ METHODS = {
                           "flaw_of_move(self, state, move)", "flaw_of_state(self, state)", "run(self, moves)",
                           "trace(self, moves)"],
     ("processes", "Program"): ["__init__(self, signals, start, loops)", "steps(self, state)"],
+    ("prefixes", "Prefix"): ["__len__(self)", "transition(self, event)", "consumed(self, event)",
+                             "produced(self, event)", "past(self, event)", "is_cutoff(self, event)"],
 }
 
 PROPERTIES = {("specs", "Spec"): ["driven"], ("netlists", "Netlist"): ["signal_count", "initial"],
               ("boards", "Board"): ["initial"], ("flow", "Design"): ["inserted"],
-              ("processes", "Program"): ["initial"]}
+              ("processes", "Program"): ["initial"], ("prefixes", "Prefix"): ["conditions"]}
 
 GENERATORS = [("nets", "Net", "markings_along"), ("cubes", None, "codes_in"), ("inserts", None, "candidates")]
 
