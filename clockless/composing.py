@@ -15,7 +15,7 @@ def are_composable(first, second):
     for signal, name in enumerate(_names(second)):
         if name in names and not _suit(first, names.index(name), second, signal):
             return False
-    return len({*names, *_names(second)}) <= MOST_SIGNALS
+    return len(set(names + _names(second))) <= MOST_SIGNALS
 
 
 def compose(first, second):

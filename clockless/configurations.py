@@ -28,7 +28,7 @@ def relation(prefix, first, second):
         return "precedes"
     if second in prefix.past(first):
         return "follows"
-    both = sorted({*prefix.past(first), *prefix.past(second)})
+    both = sorted(set(prefix.past(first) + prefix.past(second)))
     return "concurrent" if is_configuration(prefix, both) else "conflict"
 
 

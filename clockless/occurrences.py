@@ -29,13 +29,14 @@ class Occurrences:
         return sorted({event for maker in makers if maker is not None for event in self.pasts[maker]})
 
     def cut_of(self, events):
-        """The conditions that are there when the events of a configuration have happened."""
+        """The conditions that are there when the events of a configuration, ascending, have happened."""
+        # The later of two events has the greater number, and so have the conditions that it produces.
         made = [token for event in events for token in self.events[event][2]]
         gone = {token: True for event in events for token in self.events[event][1]}
-        return tuple([token for token in sorted([*self.first_tokens, *made]) if token not in gone])
+        return tuple([token for token in [*self.first_tokens, *made] if token not in gone])
 
     def state_of(self, events):
-        """The marking and the code when the events of a configuration have happened."""
+        """The marking and the code when the events of a configuration, ascending, have happened."""
         marking = tuple(sorted([self.tokens[token][0] for token in self.cut_of(events)]))
         code = self.spec.start
         for event in events:

@@ -79,8 +79,6 @@ class Unfolding:
     def take_next(self):
         """Add the first extension as an event."""
         size, transition, consumed = heappop(self.waiting)
-        if len(self.cutoffs) >= self.limit:
-            raise TooLarge(self.limit)
         event = self.made.make_event(transition, consumed)
         state = self.made.state_of(self.made.pasts[event])
         self.cutoffs.append(state in self.sizes and self.sizes[state] < size)
@@ -110,10 +108,20 @@ class Unfolding:
         net = self.made.spec.net
         place, _ = self.made.tokens[token]
         for transition in net.consumers(place):
-            chosen = [(token,)]
-            for other in [one for one in net.preset(transition) if one != place]:
-                chosen = [(*tokens, further) for tokens in chosen for further in self.usable[other]
-                          if self._is_beside_all(further, tokens)]
-            for tokens in chosen:
-                size = len(self.made.past_of(tokens)) + 1
-                heappush(self.waiting, (size, transition, tuple(sorted(tokens))))
+            self._complete(transition, (token,), [other for other in net.preset(transition) if other != place])
+
+    def _complete(self, transition, tokens, places):
+        """Note the extensions with these conditions and one more on each of the places."""
+        if places == []:
+            self._note(transition, tuple(sorted(tokens)))
+            return
+        for further in self.usable[places[0]]:
+            if self._is_beside_all(further, tokens):
+                self._complete(transition, (*tokens, further), places[1:])
+
+    def _note(self, transition, tokens):
+        """Let an extension wait for its turn."""
+        # Nothing keeps an extension that waits from becoming an event, so the limit holds for both together.
+        if len(self.cutoffs) + len(self.waiting) >= self.limit:
+            raise TooLarge(self.limit)
+        heappush(self.waiting, (len(self.made.past_of(tokens)) + 1, transition, tokens))

@@ -7,7 +7,7 @@ from clockless.signals import edge_text_of
 from clockless.words import signal_line
 
 # What binds least stands first.
-SEPARATORS = (("|", "par"), ("/", "choice"), (";", "seq"))
+SEPARATORS = {"par": "|", "choice": "/", "seq": ";"}
 
 
 def format_process(process, signals):
@@ -15,8 +15,8 @@ def format_process(process, signals):
     if process[0] == "edge":
         return edge_text_of(signals, process[1:])
     kind, parts = process
-    [separator] = [word for word, known in SEPARATORS if known == kind]
-    return f" {separator} ".join([_part_text(part, kind, signals) for part in parts])
+    separator = f" {SEPARATORS[kind]} "
+    return separator.join([_part_text(part, kind, signals) for part in parts])
 
 
 def format_program(program):
@@ -50,8 +50,8 @@ def _read_process(words, edges, levels):
 
     It is read freely: whether it is well formed and has this very text is not looked at.
     """
-    for separator, kind in SEPARATORS:
-        runs = _split(words, separator)
+    for kind in SEPARATORS:
+        runs = _split(words, SEPARATORS[kind])
         if len(runs) > 1:
             parts = [_read_process(run, edges, levels) for run in runs]
             return None if None in parts else (kind, tuple(parts))

@@ -31,7 +31,7 @@ def tidied(netlist):
     joined = Netlist(netlist.signals, netlist.start, [_with_sources(gate, sources) for gate in netlist.gates])
     kept = needed(joined)
     numbers = {wire: count + index for index, wire in enumerate(kept)}
-    gates = [_renumbered(joined.gates[wire], numbers) for wire in [*range(count), *kept]]
+    gates = [_renumbered(joined.gates[wire], numbers) for wire in list(range(count)) + kept]
     return Netlist(netlist.signals, netlist.start, gates)
 
 

@@ -108,6 +108,10 @@ def faults_of_node(node, parents, own_methods, described):
         yield "L7 generator expression"
     if isinstance(node, (ast.Set, ast.SetComp)) and not may_be_set(node, parents):
         yield "L24 set"
+    if isinstance(node, ast.List) and isinstance(node.ctx, ast.Store):
+        yield "L6 a list as a target"
+    if isinstance(node, ast.Starred) and is_star_astray(node, parents):
+        yield "L7, L23 star"
     if isinstance(node, ast.BinOp) and isinstance(node.op, ast.Pow) and not isinstance(node.right, ast.Constant):
         yield "L27 exponent"
     if isinstance(node, ast.ExceptHandler) and (node.type is None or ast.unparse(node.type) == "Exception"):
@@ -126,6 +130,13 @@ def may_be_set(node, parents):
     above = parents[node]
     stored = isinstance(above, ast.Assign)
     return stored or isinstance(above, (ast.Compare, ast.BinOp)) or taker(node, parents) in TAKES_SET
+
+
+def is_star_astray(node, parents):
+    """Whether a star stands in a set, or before what is iterated at once only."""
+    call = isinstance(node.value, ast.Call) and isinstance(node.value.func, ast.Name)
+    at_once = call and node.value.func.id in ("range", "zip", "enumerate", "reversed", "map")
+    return isinstance(parents[node], ast.Set) or at_once or isinstance(node.value, ast.GeneratorExp)
 
 
 def faults_of_import(node):

@@ -71,6 +71,10 @@ class Compiled(unittest.TestCase):
         self.assertEqual(error_of(text, rounds=1).__class__, CodeConflict)
         self.assertEqual(compile_program(text, rounds=2).inserted, ("s0", "s1"))
         self.assertEqual(compile_program(text).inserted, ("s0", "s1"))
+        lines = [f"signal {name} output 0" for name in "abcde"]
+        text = text_of(*lines, "loop a+ ; a- ; b+ ; b- ; c+ ; c-", "loop d+ ; d- ; e+ ; e-")
+        self.assertEqual([error_of(text).__class__, error_of(text, rounds=2).__class__], [CodeConflict] * 2)
+        self.assertEqual(compile_program(text, rounds=3).inserted, ("s0", "s1", "s2"))
 
     def test_the_limit(self):
         text = text_of(*AB, "loop a+ ; b+ ; a- ; b-")

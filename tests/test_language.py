@@ -60,7 +60,8 @@ class Rules(unittest.TestCase):
         slips = ["import os", "x = 1.5", "def f():\n    return 1 / 2", "def f(xs):\n    return any(x for x in xs)",
                  "def f(xs):\n    print(xs)", "def f(xs):\n    return xs.encodes()", "def f(id):\n    return 1",
                  "def f(xs):\n    for x in {1}:\n        pass", "from math import sin", "x = 'a type'",
-                 "def f(n):\n    return 2 ** n", "@f\ndef g():\n    return 1", "f()"]
+                 "def f(n):\n    return 2 ** n", "@f\ndef g():\n    return 1", "f()",
+                 "def f(xs):\n    return len({*xs})", "def f(xs):\n    [x] = xs", "def f(n):\n    return [*range(n)]"]
         for slip in slips:
             with self.subTest(slip):
                 self.assertNotEqual(faults_of_tree(ast.parse(slip), set()), [])

@@ -229,6 +229,21 @@ class Limits(unittest.TestCase):
         self.assertEqual(len(unfold(self.levels(500))), 500)
         self.assertEqual(self.refused(self.levels(501)), 500)
 
+    def test_many_extensions_at_once(self):
+        """Each signal has several ways to rise, and one event waits for one way of each."""
+        for signals, ways, count in ((2, 2, 8), (3, 3, 36), (3, 7, 364)):
+            self.assertEqual(len(unfold(self.joined(signals, ways), limit=count)), count)
+            self.assertEqual(self.refused(self.joined(signals, ways), limit=count - 1), count - 1)
+        self.assertEqual(self.refused(self.joined(7, 9)), 500)
+        self.assertEqual(self.refused(self.joined(7, 9), limit=10 ** 4), 10 ** 4)
+
+    def joined(self, signals, ways):
+        arcs = [((k,), (signals + k,)) for k in range(signals) for _ in range(ways)]
+        arcs.append((tuple(range(signals, 2 * signals)), ()))
+        edges = [(k, 1) for k in range(signals) for _ in range(ways)] + [(signals, 1)]
+        names = [(f"x{k}", "input") for k in range(signals + 1)]
+        return Spec(Net(2 * signals, arcs, tuple(range(signals))), names, edges, "0" * (signals + 1))
+
     def levels(self, count):
         """Three levels of equal ways, and single events beside them."""
         for one in range(1, 12):

@@ -56,6 +56,10 @@ class Format(unittest.TestCase):
             self.assertEqual(format_process(process, SIGNALS[:3]), text)
             self.assertEqual(format_process(process, tuple(SIGNALS)), text)
 
+    def test_a_sequence_in_a_sequence(self):
+        """It is not well formed; where it is written, it has the parentheses that are due to it."""
+        self.assertEqual(format_process(seq(seq("a+", "b+"), "c+"), SIGNALS), "( a+ ; b+ ) ; c+")
+
     def test_names(self):
         signals = [("req", "input"), ("ack2", "output")]
         self.assertEqual(format_process(seq("a+", choice("b-", "a-")), signals), "req+ ; ( ack2- / req- )")
