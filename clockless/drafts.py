@@ -1,6 +1,14 @@
-"""What texts of several kinds begin with: the lines of their signals."""
+"""Reading texts line by line, and what all of them begin with: the lines of their signals."""
 
+from clockless.errors import InvalidText
 from clockless.words import read_signal
+
+
+def take_lines(draft, lines):
+    """Let a draft take in the lines, up to the first wrong one."""
+    for number, line in enumerate(lines, start=1):
+        if not draft.take(line.split(" ")):
+            raise InvalidText(number)
 
 
 class SignalsDraft:

@@ -1,6 +1,6 @@
 """The written form of netlists."""
 
-from clockless.drafts import SignalsDraft
+from clockless.drafts import SignalsDraft, take_lines
 from clockless.errors import InvalidText
 from clockless.gates import MOST_WIRES, suits_wire
 from clockless.netlists import Netlist
@@ -20,9 +20,7 @@ def parse_netlist(text):
     """The netlist with this text."""
     draft = NetlistDraft()
     lines = [] if text == "" else text.split("\n")
-    for number, line in enumerate(lines, start=1):
-        if not draft.take(line.split(" ")):
-            raise InvalidText(number)
+    take_lines(draft, lines)
     netlist = draft.finished()
     if netlist is None:
         raise InvalidText(len(lines) + 1)

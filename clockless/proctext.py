@@ -1,6 +1,6 @@
 """The written form of programs."""
 
-from clockless.drafts import SignalsDraft
+from clockless.drafts import SignalsDraft, take_lines
 from clockless.errors import InvalidText
 from clockless.processes import MOST_DEPTH, MOST_LOOPS, Program, is_well_formed
 from clockless.signals import edge_text_of
@@ -29,9 +29,7 @@ def parse_program(text):
     """The program with this text."""
     draft = ProgramDraft()
     lines = text.split("\n")
-    for number, line in enumerate(lines, start=1):
-        if not draft.take(line.split(" ")):
-            raise InvalidText(number)
+    take_lines(draft, lines)
     if draft.loops == []:
         raise InvalidText(len(lines) + 1)
     return Program(draft.signals, draft.start, draft.loops)

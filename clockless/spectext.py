@@ -1,6 +1,6 @@
 """The written form of specifications."""
 
-from clockless.drafts import SignalsDraft
+from clockless.drafts import SignalsDraft, take_lines
 from clockless.errors import InvalidText
 from clockless.nets import MOST_PLACES, MOST_TRANSITIONS, Net
 from clockless.signals import edge_text_of, occurrence_text
@@ -22,9 +22,7 @@ def parse_spec(text):
     """The specification with this text."""
     draft = SpecDraft()
     lines = text.split("\n")
-    for number, line in enumerate(lines, start=1):
-        if not draft.take(line.split(" ")):
-            raise InvalidText(number)
+    take_lines(draft, lines)
     if draft.place_count is None:
         raise InvalidText(len(lines) + 1)
     return draft.finished()
